@@ -16,6 +16,12 @@ TAKES = {
 
 HIGHEST = 4294967295
 
+# Two letters; the worlds 0 to 3 count 1, 2, 4, 8.
+# Laid down {0, 1}; known are {1, 2}: of what doesn't matter {1, 2} is known to be so,
+# {0, 3} known not to be so, {1, 3} is neither.
+BEGUN = ("begin", 2, 6, 3)
+FOLLOWS, AGAINST, KNOWN_SO, KNOWN_NOT, OPEN = 7, 12, 6, 9, 10
+
 
 def flat(calls):
     """[("said", 3, 1), ("bad",)] as the one list of numbers that is handed in."""
@@ -54,18 +60,30 @@ def last(*calls):
     return run(*calls)[-1]
 
 
-def questions(how_many):
-    """Calls that together show all that can be told of a disputation with so many answers.
+def told_of(begin, said, *asked):
+    """The answers to what's asked of a disputation."""
+    return run(begin, *[("said", p, a) for p, a in said], *asked)[1 + len(said):]
 
-    What can be shown only by changing it comes last.
-    """
-    asked = [("bad",), ("first",), ("caught",)]
+
+def told_each(begin, said, calls):
+    """The answers to more calls than one line holds, each forty of them on the disputation as it was."""
+    told = []
+    for at in range(0, len(calls), 40):
+        told += told_of(begin, said, *calls[at:at + 40])
+    return told
+
+
+def questions(how_many):
+    """Calls that together show all that can be told of a disputation with so many answers, and change nothing."""
+    asked = [(name,) for name in ("state", "bad", "first", "caught", "mended", "differ", "least", "laids", "knowns", "alone")]
     for i in range(how_many + 1):
+        asked.append(("look", i))
         asked.append(("kind", i))
     for i in range(how_many + 2):
         asked.append(("stands", i))
-    asked.append(("lay", 1))
-    asked.append(("know", 1))
-    for i in range(how_many):
-        asked.append(("amend", i, 1))
     return asked
+
+
+def shown(how_many):
+    """Calls that show all that is kept of a disputation with so many answers, and how it's judged."""
+    return [("state",)] + [("look", i) for i in range(how_many + 1)] + [("bad",)]

@@ -19,7 +19,7 @@ NODES = (
 )
 
 # Of L8, what the package needs.
-BUILT_IN = ("Exception", "enumerate", "len", "range", "sum")
+BUILT_IN = ("enumerate", "len", "list", "range", "sum")
 
 # L25.
 METHODS = """append clear copy count endswith extend find get index insert isalnum isalpha isdigit islower isspace
@@ -60,6 +60,7 @@ class Form(unittest.TestCase):
         for path in sources():
             found = re.findall(r"\w+", path.read_text(encoding="utf-8"))
             self.assertEqual(sorted(set(found) & set(WORDS)), [], path.name)
+            self.assertEqual([word for word in found if re.search("dataclass|overload|contextmanager", word)], [], path.name)
 
     def test_statements_and_expressions(self):
         for name, node in walked():
@@ -70,6 +71,30 @@ class Form(unittest.TestCase):
                 self.assertEqual(len(node.targets), 1, (name, node.lineno))
             if isinstance(node, ast.Constant):
                 self.assertIsInstance(node.value, (int, str, type(None)), (name, node.lineno))
+
+    def test_comprehensions_and_what_is_beside_is(self):
+        for name, node in walked():
+            if isinstance(node, ast.ListComp):
+                self.assertEqual(len(node.generators), 1, (name, node.lineno))
+                self.assertLessEqual(len(node.generators[0].ifs), 1, (name, node.lineno))
+            if isinstance(node, ast.Compare) and isinstance(node.ops[0], (ast.Is, ast.IsNot)):
+                self.assertIn(getattr(node.comparators[0], "value", "no such"), (None, True, False), (name, node.lineno))
+
+    def test_what_is_walked_at_once_is_not_kept(self):
+        for name, node in walked():
+            if isinstance(node, (ast.Assign, ast.Return)) and isinstance(node.value, ast.Call):
+                called = getattr(node.value.func, "id", getattr(node.value.func, "attr", ""))
+                self.assertNotIn(called, ("zip", "enumerate", "reversed", "range", "items", "keys", "values"), (name, node.lineno))
+
+    def test_each_name_of_a_files_top_once(self):
+        for path in sources():
+            names = []
+            for node in ast.parse(path.read_text(encoding="utf-8")).body:
+                if isinstance(node, ast.Assign):
+                    names.append(node.targets[0].id)
+                elif not isinstance(node, ast.Expr):
+                    names.append(node.name)
+            self.assertEqual(sorted(set(names)), sorted(names), path.name)
 
     def test_functions(self):
         for name, node in walked():

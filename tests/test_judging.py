@@ -1,14 +1,8 @@
-"""Promise 2, but for alone and look: bad, first, kind, caught, stands."""
+"""Promise 2: bad, first, kind, caught, stands, alone, look; and promise 4: state."""
 
 import unittest
 
-from tests.lines import HIGHEST, last, run
-
-# Two letters; the worlds 0 to 3 count 1, 2, 4, 8.
-# Laid down {0, 1}; known are {1, 2}: of what doesn't matter {1, 2} is known to be so,
-# {0, 3} known not to be so, {1, 3} is neither.
-BEGUN = ("begin", 2, 6, 3)
-FOLLOWS, AGAINST, KNOWN_SO, KNOWN_NOT, OPEN = 7, 12, 6, 9, 10
+from tests.lines import AGAINST, BEGUN, FOLLOWS, HIGHEST, KNOWN_NOT, KNOWN_SO, OPEN, last, run
 
 
 class Kind(unittest.TestCase):
@@ -142,3 +136,74 @@ class Stands(unittest.TestCase):
     def test_eight_answers(self):
         told = run(BEGUN, *[("said", 1, 1)] * 8, ("stands", 8), ("stands", 9))
         self.assertEqual(told[9:], [[1, 1], [-2]])
+
+
+class Alone(unittest.TestCase):
+    def test_no_answers(self):
+        self.assertEqual(last(BEGUN, ("alone",)), [0])
+
+    def test_each_proposition_and_each_answer(self):
+        for proposed, right in ((FOLLOWS, 1), (AGAINST, 0), (KNOWN_SO, 1), (KNOWN_NOT, 0), (OPEN, 2), (0, 0), (15, 1)):
+            for answer in range(3):
+                told = last(BEGUN, ("said", proposed, answer), ("alone",))
+                self.assertEqual(told, [0] if answer == right else [1, 0], (proposed, answer))
+
+    def test_what_was_answered_before_does_not_count(self):
+        # Once {1, 2} is conceded {1, 3} follows; by what was laid down alone it's to be doubted.
+        for answer, alone, bad in ((2, [0], [1, 1]), (1, [1, 1], [0]), (0, [1, 1], [1, 1])):
+            told = run(BEGUN, ("said", KNOWN_SO, 1), ("said", OPEN, answer), ("alone",), ("bad",))
+            self.assertEqual(told[3:], [alone, bad], answer)
+
+    def test_behind_where_one_is_caught(self):
+        told = run(BEGUN, ("said", AGAINST, 1), ("said", AGAINST, 0), ("said", FOLLOWS, 1), ("said", 0, 1), ("alone",), ("bad",))
+        self.assertEqual(told[5:], [[2, 0, 3], [2, 0, 1]])
+
+    def test_one_and_three_letters(self):
+        told = run(("begin", 1, 2, 3), ("said", 1, 0), ("said", 1, 2), ("said", 3, 1), ("said", 0, 2), ("alone",))
+        self.assertEqual(told[-1], [2, 1, 3])
+        # Known and laid down is that letter 0 is so; of letter 1 nothing.
+        told = run(("begin", 3, 170, 170), ("said", 204, 1), ("said", 204, 2), ("said", 85, 1), ("said", 238, 1), ("alone",))
+        self.assertEqual(told[-1], [2, 0, 2])
+
+    def test_all_eight_rising(self):
+        self.assertEqual(last(BEGUN, *[("said", FOLLOWS, 2)] * 8, ("alone",)), [8, 0, 1, 2, 3, 4, 5, 6, 7])
+
+    def test_by_another_laying_down_and_another_knowledge(self):
+        told = run(BEGUN, ("said", OPEN, 2), ("alone",), ("lay", 2), ("alone",), ("lay", 3), ("know", 2), ("alone",))
+        self.assertEqual(told[2:], [[0], [3], [1, 0], [2], [6], [1, 0]])
+
+
+class Look(unittest.TestCase):
+    def test_what_was_proposed_then_what_it_was_answered(self):
+        for letters, said in ((1, [(3, 0), (0, 1), (2, 2)]), (2, [(15, 2), (9, 0)]), (3, [(255, 1), (128, 2), (0, 0), (77, 1)])):
+            told = run(("begin", letters, 1, 1), *[("said", p, a) for p, a in said], *[("look", i) for i in range(len(said))])
+            self.assertEqual(told[1 + len(said):], [[p, a] for p, a in said])
+
+    def test_no_answer_the_last_and_one_beyond(self):
+        told = run(BEGUN, ("look", 0), ("said", OPEN, 2), ("said", AGAINST, 1), ("look", 1), ("look", 2), ("look", HIGHEST))
+        self.assertEqual(told[1:], [[-2], [0], [1], [12, 1], [-2], [-2]])
+
+    def test_eight_answers(self):
+        told = run(BEGUN, *[("said", p, 1) for p in range(8)], ("look", 7), ("look", 8))
+        self.assertEqual(told[9:], [[7, 1], [-2]])
+
+    def test_behind_what_changes_it(self):
+        told = run(BEGUN, ("said", 4, 0), ("said", 5, 1), ("said", 6, 2), ("amend", 1, 2), ("look", 1), ("unsay", 0),
+                   ("look", 0), ("look", 1), ("look", 2), BEGUN, ("look", 0))
+        self.assertEqual(told[4:], [[1], [5, 2], [2], [5, 2], [6, 2], [-2], [0], [-2]])
+
+
+class State(unittest.TestCase):
+    def test_letters_then_known_worlds_then_what_was_laid_down_then_how_many_answers(self):
+        self.assertEqual(last(("begin", 1, 2, 3), ("state",)), [1, 2, 3, 0])
+        self.assertEqual(last(("begin", 2, 6, 9), ("said", 1, 1), ("state",)), [2, 6, 9, 1])
+        self.assertEqual(last(("begin", 3, 255, 128), *[("said", 1, 1)] * 8, ("state",)), [3, 255, 128, 8])
+
+    def test_behind_what_changes_it(self):
+        told = run(BEGUN, ("said", 1, 1), ("said", 2, 1), ("lay", 8), ("state",), ("know", 9), ("state",), ("unsay", 1),
+                   ("state",), ("amend", 0, 0), ("state",), ("begin", 3, 200, 100), ("state",))
+        self.assertEqual(told[4::2], [[2, 6, 8, 2], [2, 9, 8, 2], [2, 9, 8, 1], [2, 9, 8, 1], [3, 200, 100, 0]])
+
+    def test_a_refused_begin_does_not_show(self):
+        told = run(BEGUN, ("begin", 3, 0, 1), ("state",), ("begin", 1, 1, 0), ("state",))
+        self.assertEqual(told[1:], [[-22], [2, 6, 3, 0], [-33], [2, 6, 3, 0]])

@@ -1,1 +1,1 @@
-"""Where it went wrong: which answers of a disputation are bad, and how."""
+"""Where it went wrong: which answers of a disputation are bad, how, and what would make it right."""

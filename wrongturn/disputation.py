@@ -30,10 +30,6 @@ PROPOSITIONS = (0, 4, 16, 256)
 NUMBERS_GIVEN = (3, 2, 1, 2, 1, 1, 0, 0, 1, 0, 1, 0, 0, 0, 0, 1, 0, 1, 2, 0, 1, 0)
 
 
-class NotBuilt(Exception):
-    """A call that the document has and the program doesn't have yet."""
-
-
 class Record:
     """What is written of one disputation; no letters means that it hasn't begun."""
 
@@ -108,6 +104,52 @@ def bad_answers(laid_down, known_worlds, entries):
     return [i for i, found in enumerate(kinds) if found != RIGHT]
 
 
+def is_all_right(laid_down, known_worlds, entries):
+    return len(bad_answers(laid_down, known_worlds, entries)) == 0
+
+
+def mended_answers(laid_down, known_worlds, entries):
+    """The right answers, each by what stands if all before it were right, too."""
+    standing = laid_down
+    mended_ones = []
+    for entry in entries:
+        right = right_answer(standing, known_worlds, entry[0])
+        mended_ones.append(right)
+        standing = left_standing(standing, entry[0], right)
+    return mended_ones
+
+
+def answered_otherwise(entries, i, answer):
+    """The entries as they would be if answer i were this one."""
+    changed = list(entries)
+    changed[i] = (entries[i][0], answer)
+    return changed
+
+
+def fewest_struck(laid_down, known_worlds, entries):
+    """The fewest answers that leave all right when they are struck out, rising."""
+    fewest = list(range(len(entries)))
+    # The sets come by their numbers, so the first found of those that have as few is the one with the lesser number.
+    for chosen in range(1 << len(entries)):
+        struck = [i for i in range(len(entries)) if (chosen >> i) & 1 == 1]
+        left = [entry for i, entry in enumerate(entries) if (chosen >> i) & 1 == 0]
+        if len(struck) < len(fewest) and is_all_right(laid_down, known_worlds, left):
+            fewest = struck
+    return fewest
+
+
+def right_layings(record):
+    """What could have been laid down so that all was right, rising."""
+    above = PROPOSITIONS[record.letters]
+    return [worlds for worlds in range(1, above) if is_all_right(worlds, record.known_worlds, record.entries)]
+
+
+def right_knowings(record):
+    """Which worlds could have been known so that all was right, rising."""
+    above = PROPOSITIONS[record.letters]
+    return [worlds for worlds in range(1, above) if is_all_right(record.laid_down, worlds, record.entries)]
+
+
 # The calls. All take the record and the list of numbers given, so that they can lie in one table;
 # each gives back the list of numbers that are answered.
 
@@ -150,16 +192,22 @@ def unsay(record, given):
     return [len(record.entries)]
 
 
-def amend(record, given):
-    i = given[0]
-    answer = given[1]
+def refusal_of_answer(record, i, answer):
+    """The refusal that is due where answer i is to be another, or None."""
     if i >= len(record.entries):
-        return [NO_SUCH_ANSWER]
+        return NO_SUCH_ANSWER
     if answer > DOUBTED:
-        return [NOT_RIGHT]
-    entry = record.entries[i]
-    record.entries[i] = (entry[0], answer)
-    return [entry[1]]
+        return NOT_RIGHT
+    return None
+
+
+def amend(record, given):
+    refusal = refusal_of_answer(record, given[0], given[1])
+    if refusal is not None:
+        return [refusal]
+    before = record.entries[given[0]][1]
+    record.entries = answered_otherwise(record.entries, given[0], given[1])
+    return [before]
 
 
 def refusal_of_worlds(record, worlds):
@@ -189,9 +237,12 @@ def know(record, given):
     return [before]
 
 
-def bad(record, given):
-    found = bad_answers(record.laid_down, record.known_worlds, record.entries)
+def counted(found):
     return [len(found)] + found
+
+
+def bad(record, given):
+    return counted(bad_answers(record.laid_down, record.known_worlds, record.entries))
 
 
 def first(record, given):
@@ -227,15 +278,76 @@ def stands(record, given):
     return [count_worlds(standing), standing]
 
 
-# By their numbers; those that aren't built yet are behind these.
-CALLS = (begin, said, unsay, amend, lay, know, bad, first, kind, caught, stands)
+def mended(record, given):
+    return counted(mended_answers(record.laid_down, record.known_worlds, record.entries))
+
+
+def differ(record, given):
+    mended_ones = mended_answers(record.laid_down, record.known_worlds, record.entries)
+    return counted([i for i, entry in enumerate(record.entries) if entry[1] != mended_ones[i]])
+
+
+def least(record, given):
+    return counted(fewest_struck(record.laid_down, record.known_worlds, record.entries))
+
+
+def one_of(found, which):
+    if which >= len(found):
+        return [CANNOT_BE]
+    return [found[which]]
+
+
+def laids(record, given):
+    return [len(right_layings(record))]
+
+
+def laid(record, given):
+    return one_of(right_layings(record), given[0])
+
+
+def knowns(record, given):
+    return [len(right_knowings(record))]
+
+
+def known(record, given):
+    return one_of(right_knowings(record), given[0])
+
+
+def would(record, given):
+    refusal = refusal_of_answer(record, given[0], given[1])
+    if refusal is not None:
+        return [refusal]
+    changed = answered_otherwise(record.entries, given[0], given[1])
+    return counted(bad_answers(record.laid_down, record.known_worlds, changed))
+
+
+def alone(record, given):
+    # What is known still counts: it's only what was answered before that doesn't.
+    right_ones = [right_answer(record.laid_down, record.known_worlds, entry[0]) for entry in record.entries]
+    return counted([i for i, entry in enumerate(record.entries) if entry[1] != right_ones[i]])
+
+
+def look(record, given):
+    i = given[0]
+    if i >= len(record.entries):
+        return [NO_SUCH_ANSWER]
+    return list(record.entries[i])
+
+
+def state(record, given):
+    return [record.letters, record.known_worlds, record.laid_down, len(record.entries)]
+
+
+# By their numbers.
+CALLS = (
+    begin, said, unsay, amend, lay, know, bad, first, kind, caught, stands,
+    mended, differ, least, laids, laid, knowns, known, would, alone, look, state,
+)
 
 
 def answer_call(record, number, given):
     if record.letters == 0 and number != 0:
         return [NOT_BEGUN]
-    if number >= len(CALLS):
-        raise NotBuilt(number)
     return CALLS[number](record, given)
 
 
